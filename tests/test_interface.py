@@ -1,0 +1,98 @@
+"""The interface: names, arguments, kinds of values; what is handed in stays as it was [2], [8]."""
+
+import copy
+import importlib
+import inspect
+import unittest
+
+from leftspaces.errors import LackError, LeftError
+from tests.things import SIXTY
+
+INTERFACE = {
+    "kinds": {"is_number": "(thing)", "is_letter": "(thing)", "is_word": "(thing)", "is_section": "(thing)",
+              "is_book": "(thing)"},
+    "rooms": {"begins": "(section, i)", "room": "(section, i, width=30)"},
+    "lays": {"line_words": "(section, lay, i)"},
+    "bending": {"bent": "(section, width=30)"},
+    "turns": {"is_turns": "(thing)", "class_of": "(turns, high)", "colours": "(turns, highs)"},
+    "parting": {"sums": "(turns, highs)", "offsets": "(turns, stretches)",
+                "stretch_colours": "(turns, highs, offset)"},
+}
+ERRORS = {
+    "LeftError": None, "LackError": None,
+    "NoPaper": "(word, at)", "NoLay": "(word)", "NoReading": "(paper)", "NoWorld": "(paper)", "NoPage": "(word)",
+    "NoText": "(row, word)", "NoRow": "(row)", "NoName": "(name)", "NoPlace": "(place)", "NoStep": "(number)",
+}
+ANN = ("ann", 3, 4, ("nn", "was", "old"))
+BOOK = (30, 20, (ANN,))
+TURNS = ((1, ("red", "blue")), (3, ("green",)))
+CALLS = (
+    ("kinds", "is_number", (SIXTY,), bool), ("kinds", "is_letter", ("a",), bool), ("kinds", "is_word", ("ab",), bool),
+    ("kinds", "is_section", (ANN,), bool), ("kinds", "is_book", (BOOK,), bool), ("kinds", "is_book", ([[1], ["a"]],), bool),
+    ("rooms", "begins", (ANN, 0), int), ("rooms", "room", (ANN, 9, 3), int), ("lays", "line_words", (ANN, (3, 3, 3), 0), tuple),
+    ("lays", "line_words", (ANN, (3, 3, 3), -1), None), ("bending", "bent", (ANN, 9), tuple),
+    ("bending", "bent", (ANN, 2), None), ("turns", "is_turns", (TURNS,), bool), ("turns", "is_turns", ([[1, ["red"]]],), bool),
+    ("turns", "class_of", (TURNS, 9), int), ("turns", "colours", (TURNS, (1, 9, 1)), tuple),
+    ("parting", "sums", (TURNS, (1, 9)), tuple), ("parting", "offsets", (TURNS, ((1,), (), (9,))), tuple),
+    ("parting", "stretch_colours", (TURNS, (1, 9), (SIXTY, 1)), tuple),
+)
+
+
+def part(module, name):
+    return getattr(importlib.import_module("leftspaces." + module), name)
+
+
+class Interface(unittest.TestCase):
+    def test_functions_have_their_arguments_and_stand_in_their_files(self):
+        for module, functions in INTERFACE.items():
+            for name, signature in functions.items():
+                deed = part(module, name)
+                self.assertEqual(str(inspect.signature(deed)), signature, name)
+                self.assertEqual(deed.__module__, "leftspaces." + module)
+                self.assertEqual(deed.__name__, name)
+
+    def test_errors_have_their_fields_and_stand_in_their_file(self):
+        for name, signature in ERRORS.items():
+            made = part("errors", name)
+            self.assertEqual(made.__module__, "leftspaces.errors")
+            if signature is not None:
+                self.assertIn("__init__", vars(made))
+                self.assertEqual(str(inspect.signature(made)), signature, name)
+
+    def test_each_function_is_called_here(self):
+        called = {(module, name) for module, name, _, _ in CALLS}
+        self.assertEqual(called, {(module, name) for module, names in INTERFACE.items() for name in names})
+
+
+class Calls(unittest.TestCase):
+    def ask(self, module, name, args):
+        try:
+            return part(module, name)(*args)
+        except (LeftError, LackError) as refusal:
+            return refusal.__class__.__name__, vars(refusal)
+
+    def test_what_is_told_is_of_its_kind(self):
+        for module, name, args, kind in CALLS:
+            if kind is not None:
+                self.assertIs(self.ask(module, name, args).__class__, kind, name)
+
+    def test_what_is_handed_in_is_as_it_was(self):
+        for module, name, args, _ in CALLS:
+            before = repr(copy.deepcopy(args))
+            self.ask(module, name, args)
+            self.assertEqual(repr(args), before, name)
+
+    def test_what_was_asked_before_changes_nothing(self):
+        first = [self.ask(module, name, args) for module, name, args, _ in CALLS]
+        again = [self.ask(module, name, args) for module, name, args, _ in reversed(CALLS)]
+        self.assertEqual(first, again[::-1])
+
+    def test_places_and_names_lead_to_the_same(self):
+        for module, name, args, _ in CALLS:
+            names = list(inspect.signature(part(module, name)).parameters)
+            told = self.ask(module, name, args)
+            try:
+                named = part(module, name)(**dict(zip(names, args)))
+            except (LeftError, LackError) as refusal:
+                named = (refusal.__class__.__name__, vars(refusal))
+            self.assertEqual(told, named)
