@@ -14,6 +14,11 @@ def is_from_one(thing):
     return is_number(thing) and thing >= 1
 
 
+def are_numbers(thing):
+    """Whether it is a tuple of NUMBERS, perhaps of none."""
+    return isinstance(thing, tuple) and all([is_number(number) for number in thing])
+
+
 def is_letter(thing):
     """Whether it is a LETTER."""
     return isinstance(thing, str) and len(thing) == 1 and "a" <= thing <= "z"
@@ -33,9 +38,26 @@ def are_words(thing):
     return all([is_word(word) for word in thing])
 
 
+def are_rising_words(thing):
+    """Whether it is a rising tuple of one or more WORDS."""
+    return are_words(thing) and rises(thing)
+
+
+def are_rising_letters(thing):
+    """Whether it is a rising tuple of LETTERS, perhaps of none."""
+    if not isinstance(thing, tuple) or not all([is_letter(letter) for letter in thing]):
+        return False
+    return rises(thing)
+
+
 def rises(things):
-    """Whether each of these NUMBERS, or of these texts, is more than the one ahead."""
+    """Whether each of these NUMBERS, of these texts, or of these tuples of such, is more than the one ahead."""
     return all([one < other for one, other in zip(things, things[1:])])
+
+
+def is_pair(thing):
+    """Whether it is a tuple of two."""
+    return isinstance(thing, tuple) and len(thing) == 2
 
 
 def is_section(thing):

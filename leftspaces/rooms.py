@@ -10,3 +10,8 @@ def begins(section, i):
 def room(section, i, width=30):
     """The ROOM of line i."""
     return max(0, width - begins(section, i))
+
+
+def line_fits(section, i, words, width=30):
+    """Whether line i FITS with these words."""
+    return len(" ".join(words)) <= room(section, i, width)

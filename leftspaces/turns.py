@@ -1,6 +1,6 @@
 """Colours by turns: of the spaces of one CLASS each has the next colour [6], [60]."""
 
-from leftspaces.kinds import are_words, is_from_one, rises
+from leftspaces.kinds import are_words, is_from_one, is_pair, rises
 
 
 def is_turns(thing):
@@ -14,9 +14,7 @@ def is_turns(thing):
 
 def is_turn(thing):
     """Whether it is a row that TURNS can have: a least, and colours."""
-    if not isinstance(thing, tuple) or len(thing) != 2:
-        return False
-    return is_from_one(thing[0]) and are_words(thing[1])
+    return is_pair(thing) and is_from_one(thing[0]) and are_words(thing[1])
 
 
 def class_of(turns, high):

@@ -13,7 +13,16 @@ INTERFACE = {
               "is_book": "(thing)"},
     "rooms": {"begins": "(section, i)", "room": "(section, i, width=30)"},
     "lays": {"line_words": "(section, lay, i)"},
+    "laychecker": {"lets_lay": "(section, thing, width=30)"},
     "bending": {"bent": "(section, width=30)"},
+    "patterns": {"is_pattern": "(thing)", "fits": "(pattern, word)"},
+    "lexicons": {"is_lexicon": "(thing)", "is_follow": "(thing)", "sorts_of": "(lexicon, word)",
+                 "words_for": "(lexicon, pattern, guide=None)"},
+    "rows": {"is_row": "(thing)"},
+    "reading": {"can": "(lexicon, follow, row)", "reading_with": "(lexicon, follow, row, letter)"},
+    "anew": {"anew_lines": "(section, lay, high, wide, newer)",
+             "fewest_anew": "(section, lay, high, wide, width=30, most=None)"},
+    "anewchecker": {"lets_anew": "(section, lay, high, wide, thing, width=30, most=None)"},
     "turns": {"is_turns": "(thing)", "class_of": "(turns, high)", "colours": "(turns, highs)"},
     "parting": {"sums": "(turns, highs)", "offsets": "(turns, stretches)",
                 "stretch_colours": "(turns, highs, offset)"},
@@ -26,12 +35,33 @@ ERRORS = {
 ANN = ("ann", 3, 4, ("nn", "was", "old"))
 BOOK = (30, 20, (ANN,))
 TURNS = ((1, ("red", "blue")), (3, ("green",)))
+LEXICON = (("ann", ("name",)), ("inn", ("house", "name")), ("was", ("act",)))
+FOLLOW = (("name", "act"),)
+ROW = (("a", "e"), ("nn", "w?s"))
+LAY = (1, 2, 3)
+ODD = [1, [2], None]
 CALLS = (
     ("kinds", "is_number", (SIXTY,), bool), ("kinds", "is_letter", ("a",), bool), ("kinds", "is_word", ("ab",), bool),
     ("kinds", "is_section", (ANN,), bool), ("kinds", "is_book", (BOOK,), bool), ("kinds", "is_book", ([[1], ["a"]],), bool),
     ("rooms", "begins", (ANN, 0), int), ("rooms", "room", (ANN, 9, 3), int), ("lays", "line_words", (ANN, (3, 3, 3), 0), tuple),
     ("lays", "line_words", (ANN, (3, 3, 3), -1), None), ("bending", "bent", (ANN, 9), tuple),
-    ("bending", "bent", (ANN, 2), None), ("turns", "is_turns", (TURNS,), bool), ("turns", "is_turns", ([[1, ["red"]]],), bool),
+    ("bending", "bent", (ANN, 2), None),
+    ("laychecker", "lets_lay", (ANN, LAY, 9), int), ("laychecker", "lets_lay", (ANN, ODD, 9), None),
+    ("patterns", "is_pattern", ("w?s",), bool), ("patterns", "is_pattern", (ODD,), bool),
+    ("patterns", "fits", ("w?s", "was"), bool),
+    ("lexicons", "is_lexicon", (LEXICON,), bool), ("lexicons", "is_lexicon", ([["ann", ["name"]]],), bool),
+    ("lexicons", "is_follow", (FOLLOW,), bool), ("lexicons", "is_follow", ([["name", "act"]],), bool),
+    ("lexicons", "sorts_of", (LEXICON, "inn"), tuple), ("lexicons", "sorts_of", (LEXICON, "on"), tuple),
+    ("lexicons", "words_for", (LEXICON, "?n", ("a", "i")), tuple), ("lexicons", "words_for", (LEXICON, "???"), tuple),
+    ("rows", "is_row", (ROW,), bool), ("rows", "is_row", ([["a"], ["nn"]],), bool),
+    ("reading", "can", (LEXICON, FOLLOW, ROW), tuple), ("reading", "reading_with", (LEXICON, FOLLOW, ROW, "a"), tuple),
+    ("reading", "reading_with", (LEXICON, FOLLOW, ROW, "i"), None),
+    ("anew", "anew_lines", (ANN, LAY, 2, 4, (3, 3)), tuple), ("anew", "fewest_anew", (ANN, LAY, 2, 4, 9), tuple),
+    ("anew", "fewest_anew", (ANN, LAY, 2, 4, 2), None), ("anew", "fewest_anew", (ANN, LAY, 2, 4, 9, 2), None),
+    ("anewchecker", "lets_anew", (ANN, LAY, 3, 4, (0, LAY, ((0,) * 4,) * 4), 9), int),
+    ("anewchecker", "lets_anew", (ANN, LAY, 3, 4, (0, LAY, ODD), 9), None),
+    ("anewchecker", "lets_anew", (ANN, LAY, 3, 4, ODD, 9, 0), None),
+    ("turns", "is_turns", (TURNS,), bool), ("turns", "is_turns", ([[1, ["red"]]],), bool),
     ("turns", "class_of", (TURNS, 9), int), ("turns", "colours", (TURNS, (1, 9, 1)), tuple),
     ("parting", "sums", (TURNS, (1, 9)), tuple), ("parting", "offsets", (TURNS, ((1,), (), (9,))), tuple),
     ("parting", "stretch_colours", (TURNS, (1, 9), (SIXTY, 1)), tuple),

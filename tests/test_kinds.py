@@ -1,10 +1,10 @@
 """The kinds [2], [4], [10]."""
 
-import copy
 import string
 import unittest
 
 from leftspaces.kinds import is_book, is_letter, is_number, is_section, is_word
+from tests.looks import Looks
 from tests.things import ODD, SIXTY, as_lists, cut_or_longer, deep, swapped
 
 LOOKS = (is_number, is_letter, is_word, is_section, is_book)
@@ -16,16 +16,7 @@ NO_WORDS = ("", "A", "aB", "Z", "abcdefghi", "z" * 4000, "a b", " ", " a", "a ",
             "a{", "`a", "@", "[", "_", "~", "a\n", ("a",), ["a"], None, True, False, 0, 1, 97, (), [])
 
 
-class Looks(unittest.TestCase):
-    def told(self, look, thing, expected):
-        """A look tells True or False, and leaves the thing as it was."""
-        before = copy.deepcopy(thing)
-        self.assertIs(look(thing), expected, (look.__name__, thing))
-        self.assertIs(look(thing=thing), expected, (look.__name__, thing))
-        self.assertEqual(repr(thing), repr(before))
-
-
-class Numbers(Looks):
+class Numbers(Looks, unittest.TestCase):
     def test_numbers(self):
         for thing in (0, 1, -1, 2, 30, -30, SIXTY, -SIXTY, 10 ** 59, 10 ** 60 - 1, 1 - 10 ** 60, 10 ** 100):
             self.told(is_number, thing, True)
@@ -39,7 +30,7 @@ class Numbers(Looks):
             self.told(is_number, thing, False)
 
 
-class Letters(Looks):
+class Letters(Looks, unittest.TestCase):
     def test_small_letters(self):
         for sign in string.ascii_lowercase:
             self.told(is_letter, sign, True)
@@ -54,7 +45,7 @@ class Letters(Looks):
             self.told(is_letter, thing, False)
 
 
-class Words(Looks):
+class Words(Looks, unittest.TestCase):
     def test_words(self):
         for thing in WORDS:
             self.told(is_word, thing, True)
@@ -74,7 +65,7 @@ class Words(Looks):
             self.told(is_word, thing, False)
 
 
-class Sections(Looks):
+class Sections(Looks, unittest.TestCase):
     def test_sections(self):
         for thing in (ANN, BOB, ("a", 1, 1, ("a",)), ("abcdefgh", SIXTY, SIXTY, ("abcdefgh", "a")),
                       ("ann", 99, 1, ("n", "n", "n")), ("ann", 1, 99, ("ann",))):
@@ -128,7 +119,7 @@ class Sections(Looks):
                 self.told(is_section, thing, False)
 
 
-class Books(Looks):
+class Books(Looks, unittest.TestCase):
     def test_books(self):
         for thing in (BOOK, (30, 20, (BOB, ANN)), (30, 20, (ANN,)), (1, 1, (("b", 1, 9, ("a",)),))):
             self.told(is_book, thing, True)
@@ -201,14 +192,14 @@ class Books(Looks):
                     self.told(is_book, thing, False)
 
 
-class Largest(Looks):
+class Largest(Looks, unittest.TestCase):
     def test_large_and_deep_things_are_looked_at(self):
         for thing in (("a",) * 5000, ["a"] * 5000, (1,) * 5000, "a" * 4000, deep("a", 30, tuple), deep(1, 30, list)):
             for look in LOOKS:
                 self.told(look, thing, False)
 
 
-class Apart(Looks):
+class Apart(Looks, unittest.TestCase):
     def test_no_truth_is_a_number_however_deep(self):
         good = ("b", 1, 1, ("a",))
         book = (1, 1, (good,))

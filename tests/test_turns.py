@@ -1,78 +1,72 @@
 """Colours by turns [6], [60]."""
 
-import copy
 import unittest
 
 from leftspaces.turns import class_of, colours, is_turns
+from tests.looks import Looks
 from tests.things import ODD, SIXTY, as_lists, cut_or_longer, deep, swapped
 
 TURNS = ((1, ("red", "blue")), (3, ("green",)), (7, ("red", "red", "gold")))
 
 
-class IsTurns(unittest.TestCase):
-    def told(self, thing, expected):
-        before = copy.deepcopy(thing)
-        self.assertIs(is_turns(thing), expected, thing)
-        self.assertIs(is_turns(thing=thing), expected, thing)
-        self.assertEqual(repr(thing), repr(before))
-
+class IsTurns(Looks, unittest.TestCase):
     def test_turns(self):
         for thing in (TURNS, TURNS[:2], TURNS[:1], ((1, ("a",)),), ((1, ("red",)), (2, ("red",)), (SIXTY, ("red",)))):
-            self.told(thing, True)
+            self.told(is_turns, thing, True)
 
     def test_of_however_many_rows_and_colours(self):
-        self.told(tuple((least, ("red", "blue")) for least in range(1, 1001)), True)
-        self.told(((1, ("red",) * 1000),), True)
-        self.told(((1, ("red",) * 999 + ("Red",)),), False)
+        self.told(is_turns, tuple((least, ("red", "blue")) for least in range(1, 1001)), True)
+        self.told(is_turns, ((1, ("red",) * 1000),), True)
+        self.told(is_turns, ((1, ("red",) * 999 + ("Red",)),), False)
 
     def test_without_rows(self):
-        self.told((), False)
+        self.told(is_turns, (), False)
 
     def test_the_first_least_is_one(self):
         for least, expected in ((1, True), (0, False), (2, False), (-1, False), (True, False), (SIXTY, False),
                                 (None, False), ("1", False), ((1,), False)):
-            self.told(((least, ("red",)),), expected)
-            self.told(((least, ("red",)), (9, ("red",))), expected)
+            self.told(is_turns, ((least, ("red",)),), expected)
+            self.told(is_turns, ((least, ("red",)), (9, ("red",))), expected)
 
     def test_leasts_rise(self):
         for leasts, expected in (((1, 2), True), ((1, 1), False), ((1, 0), False), ((1, -1), False),
                                  ((1, 3, 2), False), ((1, 3, 3), False), ((1, 3, 4), True), ((1, 4, 2, 5), False),
                                  ((2, 1), False), ((1, 2, 3, 2), False), ((0, 1), False), ((1, True), False)):
-            self.told(tuple((least, ("red",)) for least in leasts), expected)
+            self.told(is_turns, tuple((least, ("red",)) for least in leasts), expected)
 
     def test_leasts_are_numbers(self):
         for least in (True, False, None, "2", (2,), [2], 0):
-            self.told(((1, ("red",)), (least, ("blue",))), False)
+            self.told(is_turns, ((1, ("red",)), (least, ("blue",))), False)
 
     def test_void_colours(self):
-        self.told(((1, ()),), False)
-        self.told(((1, ("red",)), (2, ())), False)
-        self.told(((1, ()), (2, ("red",))), False)
+        self.told(is_turns, ((1, ()),), False)
+        self.told(is_turns, ((1, ("red",)), (2, ())), False)
+        self.told(is_turns, ((1, ()), (2, ("red",))), False)
 
     def test_colours_that_are_alike(self):
-        self.told(((1, ("red", "red")),), True)
+        self.told(is_turns, ((1, ("red", "red")),), True)
 
     def test_colours_are_words_in_a_tuple(self):
         for ring in (["red"], "red", "r", None, 1, ("Red",), ("",), ("red", ""), ("a b",), ("abcdefghi",), (1,),
                      ("red", None), (("red",),), ("red", True)):
-            self.told(((1, ring),), False)
-            self.told(((1, ("red",)), (4, ring)), False)
-        self.told(((1, ("abcdefgh", "a")),), True)
+            self.told(is_turns, ((1, ring),), False)
+            self.told(is_turns, ((1, ("red",)), (4, ring)), False)
+        self.told(is_turns, ((1, ("abcdefgh", "a")),), True)
 
     def test_rows_are_pairs(self):
         for more in (None, 1, "a", ("red",)):
             for row in cut_or_longer(TURNS[0], more):
-                self.told((row,), False)
-        self.told(([1, ("red",)],), False)
+                self.told(is_turns, (row,), False)
+        self.told(is_turns, ([1, ("red",)],), False)
 
     def test_other_things(self):
         for thing in ODD + (TURNS[0], list(TURNS), as_lists(TURNS), 1, 0, deep(TURNS, 26, tuple), "1 red"):
-            self.told(thing, False)
+            self.told(is_turns, thing, False)
 
     def test_any_odd_thing_in_any_place(self):
         for odd in ODD + (0, -1):
             for thing in swapped(TURNS, odd):
-                self.told(thing, False)
+                self.told(is_turns, thing, False)
 
 
 class ClassOf(unittest.TestCase):

@@ -59,10 +59,10 @@ def is_lay(section, lay, width):
     return len(lay) == high or lay[-1] > (lay[-2] if len(lay) > 1 else 0)
 
 
-def all_lays(section, width):
-    """Each LAY there is of a small SECTION (those with void lines ahead of the SPACE's end, too)."""
+def all_lays(section, width, most=None):
+    """Each LAY there is of a small SECTION that has at most so many lines (those with void lines between, too)."""
     high, words = section[1], section[3]
-    for lines in range(1, high + len(words) + 2):
+    for lines in range(1, (high + len(words) + 1 if most is None else most) + 1):
         for lay in combinations_with_replacement(range(len(words) + 1), lines):
             if is_lay(section, lay, width):
                 yield lay
