@@ -9,6 +9,11 @@ def is_number(thing):
     return isinstance(thing, int) and not isinstance(thing, bool)
 
 
+def is_from_nought(thing):
+    """Whether it is a NUMBER from 0 on."""
+    return is_number(thing) and thing >= 0
+
+
 def is_from_one(thing):
     """Whether it is a NUMBER from 1 on."""
     return is_number(thing) and thing >= 1

@@ -15,11 +15,19 @@ INTERFACE = {
     "lays": {"line_words": "(section, lay, i)"},
     "laychecker": {"lets_lay": "(section, thing, width=30)"},
     "bending": {"bent": "(section, width=30)"},
+    "bentchecker": {"lets_bent": "(section, thing, width=30)"},
+    "spreading": {"spread": "(book, line=0)", "sheets_of": "(book)"},
     "patterns": {"is_pattern": "(thing)", "fits": "(pattern, word)"},
     "lexicons": {"is_lexicon": "(thing)", "is_follow": "(thing)", "sorts_of": "(lexicon, word)",
                  "words_for": "(lexicon, pattern, guide=None)"},
     "rows": {"is_row": "(thing)"},
     "reading": {"can": "(lexicon, follow, row)", "reading_with": "(lexicon, follow, row, letter)"},
+    "readingchecker": {"lets_reading": "(lexicon, follow, row, thing)"},
+    "barrierchecker": {"lets_barrier": "(lexicon, follow, row, letter, thing)"},
+    "cans": {"are_cans": "(thing)", "is_bill": "(thing)"},
+    "worlds": {"world": "(cans, bill)"},
+    "canbe": {"left_by": "(cans, bill, space, letter)", "can_be": "(cans, bill, space)",
+              "world_with": "(cans, bill, space, letter)"},
     "anew": {"anew_lines": "(section, lay, high, wide, newer)",
              "fewest_anew": "(section, lay, high, wide, width=30, most=None)"},
     "anewchecker": {"lets_anew": "(section, lay, high, wide, thing, width=30, most=None)"},
@@ -39,6 +47,8 @@ LEXICON = (("ann", ("name",)), ("inn", ("house", "name")), ("was", ("act",)))
 FOLLOW = (("name", "act"),)
 ROW = (("a", "e"), ("nn", "w?s"))
 LAY = (1, 2, 3)
+CANS = (("a", "e"), ("a",), ("a", "i"))
+BILL = (("a", 2), ("e", 1))
 ODD = [1, [2], None]
 CALLS = (
     ("kinds", "is_number", (SIXTY,), bool), ("kinds", "is_letter", ("a",), bool), ("kinds", "is_word", ("ab",), bool),
@@ -47,6 +57,8 @@ CALLS = (
     ("lays", "line_words", (ANN, (3, 3, 3), -1), None), ("bending", "bent", (ANN, 9), tuple),
     ("bending", "bent", (ANN, 2), None),
     ("laychecker", "lets_lay", (ANN, LAY, 9), int), ("laychecker", "lets_lay", (ANN, ODD, 9), None),
+    ("bentchecker", "lets_bent", (ANN, LAY, 9), int), ("bentchecker", "lets_bent", (ANN, ODD, 9), None),
+    ("spreading", "spread", (BOOK, SIXTY), tuple), ("spreading", "sheets_of", (BOOK,), int),
     ("patterns", "is_pattern", ("w?s",), bool), ("patterns", "is_pattern", (ODD,), bool),
     ("patterns", "fits", ("w?s", "was"), bool),
     ("lexicons", "is_lexicon", (LEXICON,), bool), ("lexicons", "is_lexicon", ([["ann", ["name"]]],), bool),
@@ -56,6 +68,17 @@ CALLS = (
     ("rows", "is_row", (ROW,), bool), ("rows", "is_row", ([["a"], ["nn"]],), bool),
     ("reading", "can", (LEXICON, FOLLOW, ROW), tuple), ("reading", "reading_with", (LEXICON, FOLLOW, ROW, "a"), tuple),
     ("reading", "reading_with", (LEXICON, FOLLOW, ROW, "i"), None),
+    ("readingchecker", "lets_reading", (LEXICON, FOLLOW, ROW, (("ann", "name"), ("was", "act"))), bool),
+    ("readingchecker", "lets_reading", (LEXICON, FOLLOW, ROW, ODD), None),
+    ("barrierchecker", "lets_barrier", (LEXICON, FOLLOW, ROW, "i", ((), ())), bool),
+    ("barrierchecker", "lets_barrier", (LEXICON, FOLLOW, ROW, "a", ODD), None),
+    ("cans", "are_cans", (CANS,), bool), ("cans", "are_cans", ([["a"]],), bool),
+    ("cans", "is_bill", (BILL,), bool), ("cans", "is_bill", ([["a", 1]],), bool),
+    ("worlds", "world", (CANS, BILL), tuple), ("worlds", "world", (CANS, (("z", 1),)), tuple),
+    ("canbe", "left_by", (CANS, BILL, 0, "e"), tuple), ("canbe", "left_by", (CANS, BILL, 1, "e"), type(None)),
+    ("canbe", "left_by", (CANS, BILL, 3, "e"), None), ("canbe", "can_be", (CANS, BILL, 2), tuple),
+    ("canbe", "can_be", (CANS, BILL, -1), None), ("canbe", "world_with", (CANS, BILL, 2, "a"), tuple),
+    ("canbe", "world_with", (CANS, BILL, SIXTY, "a"), None),
     ("anew", "anew_lines", (ANN, LAY, 2, 4, (3, 3)), tuple), ("anew", "fewest_anew", (ANN, LAY, 2, 4, 9), tuple),
     ("anew", "fewest_anew", (ANN, LAY, 2, 4, 2), None), ("anew", "fewest_anew", (ANN, LAY, 2, 4, 9, 2), None),
     ("anewchecker", "lets_anew", (ANN, LAY, 3, 4, (0, LAY, ((0,) * 4,) * 4), 9), int),
