@@ -89,5 +89,9 @@ def is_book(thing):
 
 def suits_sheet(section, width, lines):
     """Whether a SECTION has no WORD longer than the WIDTH, and is no higher than a sheet of so many lines."""
-    high, words = section[1], section[3]
-    return high <= lines and all([len(word) <= width for word in words])
+    return section[1] <= lines and suits_width(section, width)
+
+
+def suits_width(section, width):
+    """Whether a SECTION has no WORD longer than the WIDTH."""
+    return all([len(word) <= width for word in section[3]])

@@ -18,7 +18,12 @@ def is_lexicon_row(thing):
     if not is_pair(thing):
         return False
     word, sorts = thing
-    return is_word(word) and len(word) >= SHORTEST_WORD and are_rising_words(sorts)
+    return is_lexicon_word(word) and are_rising_words(sorts)
+
+
+def is_lexicon_word(thing):
+    """Whether it is a WORD that a LEXICON can have."""
+    return is_word(thing) and len(thing) >= SHORTEST_WORD
 
 
 def is_follow(thing):

@@ -35,8 +35,11 @@ def barrier(lexicon, follow, row, letter, behind):
 
 def words_from(lexicon, row, letter):
     """The WORDS THERE at place 0 that begin with a LETTER, none where the GUIDE doesn't let it."""
-    if not lets_letter(row[0], letter):
-        return ()
+    return words_made(lexicon, row, letter) if lets_letter(row[0], letter) else ()
+
+
+def words_made(lexicon, row, letter):
+    """The WORDS THERE at place 0 that begin with a LETTER, whatever the GUIDE."""
     return tuple([word for word in words_there(lexicon, row, 0) if word[0] == letter])
 
 
