@@ -6,6 +6,8 @@ from leftspaces.kinds import suits_sheet
 from leftspaces.rolls import in_order
 from leftspaces.texts import NOTHING
 
+MOST_FIGURES = 9
+
 
 def read_page(text):
     """The PAGE that a line writes."""
@@ -51,8 +53,8 @@ def thing_written(form, word):
 
 
 def number_written(word):
-    """The NUMBER that a word writes, None where it writes none."""
-    if word == "" or not all(["0" <= sign <= "9" for sign in word]):
+    """The NUMBER that a word writes, None where it writes none that is read: one of more figures isn't."""
+    if not 1 <= len(word) <= MOST_FIGURES or not all(["0" <= sign <= "9" for sign in word]):
         return None
     return int(word) if word == "0" or word[0] != "0" else None
 

@@ -2,8 +2,8 @@
 
 import re
 
-NUMBER = "0|[1-9][0-9]*"
-SIZE = "[1-9][0-9]*"
+NUMBER = "0|[1-9][0-9]{0,8}"
+SIZE = "[1-9][0-9]{0,8}"
 WORD = "[a-z]{1,8}"
 WORDS = f"{WORD}(,{WORD})*"
 SECTION = f"{WORD}:{SIZE}:{SIZE}:{WORDS}"
@@ -38,7 +38,7 @@ ODD_WORDS = ("", "-", "0", "1", "00", "01", "+1", "-1", "1.0", "99999", "100000"
              "abcdefgh", "abcdefghi", "ae", "ea", "aa", "put", "ann:3:4:nn", "ann:0:4:nn", "ann:3:04:nn", "ann:3:4:",
              "ann:3:4", "ann:3:4:nn:x", ":3:4:nn", "ann:3:-4:nn", "ann:3:4:nn,", "ann:3:4:,nn", "ann:3:4:nn,,x",
              "ann:3:4:abcdefghi", "ann:9:4:nn", "a,b", "b,a", "a,a", "a,", ",a", ",", "x,y,zz", "a:b", "true", "1_0",
-             "1e1", "book", "turn")
+             "1e1", "999999999", "1000000000", "ann:1000000000:4:nn", "ann:3:999999999:nn", "book", "turn")
 
 
 def writes(form, word):

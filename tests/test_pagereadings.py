@@ -48,8 +48,19 @@ class ReadPage(Readings, unittest.TestCase):
                          (1, 2, "grow", "ann", 1, number),
                          (1, 2, "put", ("ann", number, number, ("x",)), "")):
                 self.assertEqual(repr(read_page(page_line(page))), repr(page))
-        # What is written is read as the same, of more figures than nine, too.
-        self.assertEqual(read_page("1 2 bill a " + str(SIXTY)), (1, 2, "bill", "a", SIXTY))
+
+    def test_numbers_of_more_than_nine_figures(self):
+        for number in ("1000000000", "9999999999", str(SIXTY), "1" * 3000):
+            self.no_page(0, number + " 0 out ann")
+            self.no_page(1, "0 " + number + " out ann")
+            self.no_page(4, "1 2 bill a " + number)
+            self.no_page(4, "1 2 bill a " + number + " 3")
+            self.no_page(4, "1 2 grow ann " + number + " 1")
+            self.no_page(5, "1 2 grow ann 1 " + number)
+            self.no_page(5, "1 2 grow ann 1 " + number + " 3")
+            self.no_page(4, "1 2 grow ann " + number + " " + number)
+            self.no_page(3, "1 2 put ann:" + number + ":1:x -")
+            self.no_page(3, "1 2 put ann:1:" + number + ":x -")
 
     def test_the_moment(self):
         for day, number in ((0, 0), (99999, 999)):
@@ -191,8 +202,18 @@ class ReadBase(Readings, unittest.TestCase):
         for base, _, _ in small_walks(100, 83):
             self.assertIs(is_base(base), True)
             self.assertEqual(repr(read_base(base_lines(base))), repr(base))
-        base = ((SIXTY, SIXTY, (("ann", SIXTY, SIXTY, ("x",)),)), (), (), ((1, ("a",)), (SIXTY, ("a",))))
+        nines = 999999999
+        base = ((nines, nines, (("ann", nines, nines, ("x",)),)), (), (), ((1, ("a",)), (nines, ("a",))))
         self.assertEqual(repr(read_base(base_lines(base))), repr(base))
+
+    def test_numbers_of_more_than_nine_figures(self):
+        for number in ("1000000000", str(SIXTY)):
+            self.no_base(0, 1, ["book " + number + " 9", "turn 1 red"])
+            self.no_base(0, 2, ["book 9 " + number, "turn 1 red"])
+            self.no_base(1, 1, ["book 9 9", "section ann:" + number + ":1:x", "turn 1 red"])
+            self.no_base(1, 1, ["book 9 9", "section ann:1:" + number + ":x", "turn 1 red"])
+            self.no_base(1, 1, ["book 9 9", "turn " + number + " red"])
+            self.no_base(2, 1, ["book 9 9", "turn 1 red", "turn " + number + " red"])
 
     def test_no_line_at_all(self):
         self.no_base(0, 0, [])
