@@ -1,8 +1,9 @@
-"""PAGES, ROLLS and BASES, written [79]."""
+"""PAGES, ROLLS and BASES, written [79]; and lists of what is written [85]."""
 
 from leftspaces.forms import base_forms, page_forms
 
 NOTHING = "-"
+LINES_APART = " / "
 
 
 def section_word(section):
@@ -28,7 +29,7 @@ def thing_word(form, thing):
     if form == "ahead":
         return thing or NOTHING
     if form == "letters":
-        return "".join(thing) or NOTHING
+        return listed(thing, "")
     if form in ("sorts", "colours"):
         return ",".join(thing)
     return str(thing)
@@ -48,3 +49,8 @@ def base_lines(base):
     told.extend([("follow", first, second) for first, second in follow])
     told.extend([("turn", least, row_colours) for least, row_colours in turns])
     return [written(base_forms(things[0]), things) for things in told]
+
+
+def listed(words, between):
+    """Words, or lines, as one text, parted by what stands between."""
+    return between.join(words) or NOTHING

@@ -5,40 +5,40 @@ from leftspaces.kinds import suits_width
 from leftspaces.rolls import up_to
 
 
-class Walk:
-    """What stands behind the PAGES that are done so far."""
-
-    def __init__(self, book):
-        self.book = book
-        self.marks = {}
-        self.painted = {}
-        self.bill = {}
+def stands_at(base, roll, moment):
+    """What stands behind a MOMENT: the BOOK, the marks and what is PAINTED by their NAMES, the BILL by its LETTERS."""
+    stands, _ = walked(base[0], up_to(roll, moment))
+    return stands
 
 
-def walked(base, roll, moment):
-    """What stands behind a MOMENT."""
-    walk = Walk(base[0])
-    for page in up_to(roll, moment):
-        if idle_word(walk, page) == "":
-            do_page(walk, page)
-    return walk
+def walked(book, roll):
+    """What stands behind all PAGES of a ROLL, and those that are IDLE, each with its word."""
+    stands = (book, {}, {}, {})
+    idle = []
+    for page in roll:
+        word = idle_word(stands, page)
+        if word == "":
+            stands = done(stands, page)
+        else:
+            idle.append((page, word))
+    return (stands, idle)
 
 
-def idle_word(walk, page):
+def idle_word(stands, page):
     """Why a PAGE can't be done, "" where it can."""
-    kind = page[2]
+    book, _, painted, _ = stands
+    kind, name = page[2], page[3]
     if kind == "bill":
         return ""
     if kind == "put":
-        return put_word(walk.book, page[3], page[4])
-    name = page[3]
-    if name not in book_names(walk.book):
+        return put_word(book, page[3], page[4])
+    if name not in book_names(book):
         return "name"
-    if kind == "grow" and page[4] > walk.book[1]:
+    if kind == "grow" and page[4] > book[1]:
         return "high"
-    if kind == "paint" and name in walk.painted:
+    if kind == "paint" and name in painted:
         return "full"
-    if kind == "scrape" and name not in walk.painted:
+    if kind == "scrape" and name not in painted:
         return "void"
     return ""
 
@@ -55,23 +55,33 @@ def put_word(book, section, ahead):
     return "" if suits_width(section, book[0]) else "long"
 
 
-def do_page(walk, page):
-    """Do a PAGE that can be done."""
-    kind, told = page[2], page[3:]
+def done(stands, page):
+    """What stands behind a PAGE that can be done; what stood ahead of it stays as it was."""
+    book, marks, painted, bill = stands
+    kind, told, more = page[2], page[3], page[4:]
     if kind == "put":
-        walk.book = with_section(walk.book, told[0], told[1])
-    elif kind == "out":
-        walk.book = without_section(walk.book, told[0])
-        walk.marks.pop(told[0], None)
-        walk.painted.pop(told[0], None)
-    elif kind == "grow":
-        walk.book = grown(walk.book, told[0], told[1], told[2])
-    elif kind == "guide":
+        return (with_section(book, told, more[0]), marks, painted, bill)
+    if kind == "out":
+        return (without_section(book, told), without_key(marks, told), without_key(painted, told), bill)
+    if kind == "grow":
+        return (grown(book, told, more[0], more[1]), marks, painted, bill)
+    if kind == "guide":
         # A mark of no LETTERS is a lost one.
-        walk.marks[told[0]] = told[1] or None
-    elif kind == "scrape":
-        walk.painted.pop(told[0])
-    elif kind == "paint":
-        walk.painted[told[0]] = told[1:]
-    else:
-        walk.bill[told[0]] = told[1]
+        return (book, with_key(marks, told, more[0] or None), painted, bill)
+    if kind == "scrape":
+        return (book, marks, without_key(painted, told), bill)
+    if kind == "paint":
+        return (book, marks, with_key(painted, told, more), bill)
+    return (book, marks, painted, with_key(bill, told, more[0]))
+
+
+def with_key(told, key, thing):
+    """What is told by keys, with this thing by this key."""
+    more = dict(told)
+    more[key] = thing
+    return more
+
+
+def without_key(told, key):
+    """What is told by keys, without this key."""
+    return {other: told[other] for other in told if other != key}

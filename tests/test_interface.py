@@ -26,6 +26,9 @@ INTERFACE = {
     "barrierchecker": {"lets_barrier": "(lexicon, follow, row, letter, thing)"},
     "cans": {"are_cans": "(thing)", "is_bill": "(thing)"},
     "worlds": {"world": "(cans, bill)"},
+    "worldchecker": {"lets_world": "(cans, bill, thing)"},
+    "nochecker": {"lets_no": "(cans, bill, thing)"},
+    "joining": {"joined_bills": "(one, other)"},
     "canbe": {"left_by": "(cans, bill, space, letter)", "can_be": "(cans, bill, space)",
               "world_with": "(cans, bill, space, letter)"},
     "changing": {"with_section": "(book, section, ahead)", "without_section": "(book, name)",
@@ -36,6 +39,8 @@ INTERFACE = {
     "states": {"row_of": "(base, roll, moment, name)", "unfilled": "(base, roll, moment)",
                "sure": "(base, roll, moment)", "wrong": "(base, roll, moment)", "stale": "(base, roll, moment)",
                "what_is_left": "(base, roll, moment)", "filled": "(base, roll, moment)"},
+    "views": {"book_at": "(base, roll, moment)", "marks_at": "(base, roll, moment)", "painted_at": "(base, roll, moment)",
+              "bill_at": "(base, roll, moment)", "idle": "(base, roll, moment)"},
     "texts": {"section_word": "(section)", "page_line": "(page)", "roll_lines": "(roll)", "base_lines": "(base)"},
     "pagereadings": {"read_page": "(text)", "read_roll": "(lines)", "read_base": "(lines)"},
     "anew": {"anew_lines": "(section, lay, high, wide, newer)",
@@ -44,6 +49,14 @@ INTERFACE = {
     "turns": {"is_turns": "(thing)", "class_of": "(turns, high)", "colours": "(turns, highs)"},
     "parting": {"sums": "(turns, highs)", "offsets": "(turns, stretches)",
                 "stretch_colours": "(turns, highs, offset)"},
+    "offsetchecker": {"lets_offsets": "(turns, stretches, thing)"},
+}
+CLASSES = {
+    "workshop": ("Workshop", "(base)", {
+        "tell": "(self, thing)", "strike": "(self, thing)", "take_in": "(self, other)", "back": "(self)",
+        "base": "(self)", "roll": "(self)", "elder": "(self, k)", "__len__": "(self)", "__str__": "(self)",
+        "__eq__": "(self, other)", "__ne__": "(self, other)"}),
+    "desk": ("Desk", "()", {"say": "(self, row)"}),
 }
 ERRORS = {
     "LeftError": None, "LackError": None,
@@ -91,6 +104,11 @@ CALLS = (
     ("cans", "are_cans", (CANS,), bool), ("cans", "are_cans", ([["a"]],), bool),
     ("cans", "is_bill", (BILL,), bool), ("cans", "is_bill", ([["a", 1]],), bool),
     ("worlds", "world", (CANS, BILL), tuple), ("worlds", "world", (CANS, (("z", 1),)), tuple),
+    ("worldchecker", "lets_world", (CANS, BILL, ("e", "a", "a")), bool),
+    ("worldchecker", "lets_world", (CANS, BILL, ODD), None),
+    ("nochecker", "lets_no", (CANS, (("a", 9),), ("few", ("a",))), bool),
+    ("nochecker", "lets_no", (CANS, BILL, ["few", ["a"]]), None),
+    ("joining", "joined_bills", (BILL, BILL[1:]), tuple),
     ("canbe", "left_by", (CANS, BILL, 0, "e"), tuple), ("canbe", "left_by", (CANS, BILL, 1, "e"), type(None)),
     ("canbe", "left_by", (CANS, BILL, 3, "e"), None), ("canbe", "can_be", (CANS, BILL, 2), tuple),
     ("canbe", "can_be", (CANS, BILL, -1), None), ("canbe", "world_with", (CANS, BILL, 2, "a"), tuple),
@@ -113,6 +131,9 @@ CALLS = (
     ("states", "sure", (BASE, ROLL, MOMENT), tuple), ("states", "wrong", (BASE, ROLL, MOMENT), tuple),
     ("states", "stale", (BASE, ROLL, MOMENT), tuple), ("states", "what_is_left", (BASE, ROLL, (9, 9)), tuple),
     ("states", "filled", (BASE, ROLL, (9, 9)), tuple), ("texts", "section_word", (ANN,), str),
+    ("views", "book_at", (BASE, ROLL, MOMENT), tuple), ("views", "marks_at", (BASE, ROLL, MOMENT), tuple),
+    ("views", "painted_at", (BASE, ROLL, MOMENT), tuple), ("views", "bill_at", (BASE, ROLL, MOMENT), tuple),
+    ("views", "idle", (BASE, ROLL, MOMENT), list),
     ("texts", "page_line", (PAGE,), str), ("texts", "roll_lines", (ROLL,), list),
     ("texts", "base_lines", (BASE,), list),
     ("pagereadings", "read_page", ("4 0 out ann",), tuple), ("pagereadings", "read_page", ("4 0 out",), None),
@@ -128,6 +149,8 @@ CALLS = (
     ("turns", "class_of", (TURNS, 9), int), ("turns", "colours", (TURNS, (1, 9, 1)), tuple),
     ("parting", "sums", (TURNS, (1, 9)), tuple), ("parting", "offsets", (TURNS, ((1,), (), (9,))), tuple),
     ("parting", "stretch_colours", (TURNS, (1, 9), (SIXTY, 1)), tuple),
+    ("offsetchecker", "lets_offsets", (TURNS, ((1, 9), ()), ((0, 0), (1, 1))), bool),
+    ("offsetchecker", "lets_offsets", (TURNS, ((1, 9), ()), ODD), None),
 )
 
 
@@ -143,6 +166,15 @@ class Interface(unittest.TestCase):
                 self.assertEqual(str(inspect.signature(deed)), signature, name)
                 self.assertEqual(deed.__module__, "leftspaces." + module)
                 self.assertEqual(deed.__name__, name)
+
+    def test_classes_have_their_methods_and_stand_in_their_files(self):
+        for module, (name, signature, methods) in CLASSES.items():
+            made = part(module, name)
+            self.assertEqual(made.__module__, "leftspaces." + module)
+            self.assertEqual(str(inspect.signature(made)), signature)
+            for method, arguments in methods.items():
+                self.assertIn(method, vars(made))
+                self.assertEqual(str(inspect.signature(vars(made)[method])), arguments, method)
 
     def test_errors_have_their_fields_and_stand_in_their_file(self):
         for name, signature in ERRORS.items():

@@ -30,6 +30,18 @@ class Box:
         self.rows = list(rows)
         self.many = 0
 
+    def __len__(self):
+        return len(self.rows)
+
+    def __str__(self):
+        return f"{pairs(self.rows)} and {self.many}"
+
+    def __eq__(self, other):
+        return isinstance(other, Box) and self.rows == other.rows
+
+    def __ne__(self, other):
+        return not self == other
+
     def put(self, row, by=1):
         """Put a row in."""
         if row in self.rows or not isinstance(row, (int, str)):
@@ -46,12 +58,17 @@ def pairs(rows):
     first, second = min(rows), max(rows, key=abs)
     if len({row for row in rows}) == len(rows) and 3 in range(MOST) and first < second:
         return sorted([(name, many) for name, many in found.items()], reverse=True)
+    return [f"{one} of {second}" for one in rows] + ["-".join(["a"])]
+
+
+def boxed(rows):
+    """A box."""
     box = Box(rows)
     try:
         box.put(told(7), by=2 ** 3)
     except Refused:
-        return []
-    return [f"{one} of {second}" for one in box.rows] + ["-".join(["a"])]
+        return None
+    return box
 '''
 OTHER = '''class Refused(ValueError):
     def __init__(self, row):
@@ -73,6 +90,11 @@ def function(*lines):
     return "def f(xs, k):\n" + "".join(f"    {line}\n" for line in lines)
 
 
+def operator(*lines):
+    """The text of a class that is compared, by such lines."""
+    return "class A:\n    def __ne__(self, other):\n" + "".join(f"        {line}\n" for line in lines)
+
+
 BAD = {
     "L2": ["import sys\n", "from os import path\n", "from leftspaces.other import *\n", "from . import other\n",
            "from leftspaces.other import told as t\n", "A = 1\nfrom leftspaces.other import told\n",
@@ -86,7 +108,12 @@ BAD = {
     "L5": ["@told\nclass A:\n    pass\n", "class A(list):\n    '''a'''\n", "class A(B):\n    '''a'''\n",
            "class A:\n    x = 1\n", "class A:\n    def __hash__(self):\n        return 1\n",
            "class A:\n    def f():\n        return 1\n", "class A(metaclass=B):\n    '''a'''\n",
-           "class A(B):\n    '''a'''\n\n\nclass B:\n    '''b'''\n"],
+           "class A(B):\n    '''a'''\n\n\nclass B:\n    '''b'''\n",
+           operator("self.n = 1"), operator("self.rows.append(1)"), operator("self.rows[0] = 1"),
+           operator("f(self.rows)") + "\n\ndef f(xs):\n    xs.append(1)\n",
+           operator("self.f()") + "\n    def f(self):\n        self.n = 1\n",
+           operator("f(self.n)") + "\n\ndef f(k):\n    n = [k]\n    n = k\n    n.append(k)\n",
+           operator("f(self.n)") + "\n\ndef f(k):\n    return k(1)\n", operator("n = 1", "n += self.n")],
     "L6": [function("global A"), function("xs[0]"), function("with xs:", "    pass"), function("xs[1:] += [k]"),
            function("try:", "    pass", "finally:", "    pass"), function("assert (k, 'a')"), function("first, *r = xs"),
            function("del xs[0]"), "async def f():\n    pass\n", function("match k:", "    case 1:", "        pass")],
@@ -150,7 +177,13 @@ BAD = {
             function("return chr(k)"), function("return pow(k, 2)"), function("return 1if k else 2"),
             function("return f\"{xs['a']}\""), function("return k ** -1"), "A = 1" + "0" * 901 + "\n"],
     "L28": ["class A:\n    def __init__(self):\n        return None\n", "def __init__(self):\n    pass\n",
-            "class A:\n    def __len__(self):\n        return 1\n",
+            "class A:\n    def __init__(self):\n        return\n",
+            "class A:\n    def __len__(self):\n        return self.n\n",
+            "class A:\n    def __len__(self):\n        return True\n",
+            "class A:\n    def __str__(self):\n        return self.n\n",
+            "class A:\n    def __str__(self):\n        n = 1\n        return str(n)\n",
+            "class A:\n    def __eq__(self, other):\n        return self.n == other.n\n",
+            "class A:\n    def __ne__(self, other):\n        pass\n", "def __len__(self):\n    return 1\n",
             "class A:\n    def f(self):\n        A.__init__(self)\n",
             "class A:\n    '''a'''\n\n\nclass B(A):\n    def __init__(self, other):\n        A.__init__(other)\n"],
 }

@@ -3,8 +3,8 @@
 import copy
 import unittest
 
-from leftspaces.walking import Walk, do_page, idle_word, walked
-from tests.walks import TURNS, Stands, small_walks
+from leftspaces.walking import done, idle_word, stands_at, walked
+from tests.walks import END, TURNS, Stands, small_walks
 
 ANN = ("ann", 2, 4, ("re", "we"))
 BOB = ("bob", 1, 2, ("e", "we"))
@@ -14,9 +14,8 @@ BASE = ((7, 5, (ANN, BOB)), (), (), TURNS)
 
 class Words(unittest.TestCase):
     def told(self, word, *page):
-        walk = Walk(BASE[0])
-        walk.painted["bob"] = ("a", "red")
-        self.assertEqual(idle_word(walk, (1, 0) + page), word)
+        stands = (BASE[0], {}, {"bob": ("a", "red")}, {})
+        self.assertEqual(idle_word(stands, (1, 0) + page), word)
 
     def test_each_word(self):
         self.told("twice", "put", ANN, "")
@@ -48,23 +47,25 @@ class Walked(unittest.TestCase):
     def test_as_the_words_tell_it(self):
         for base, roll, moment in small_walks(400, 70):
             before = copy.deepcopy((base, roll))
-            walk = walked(base, roll, moment)
+            book, marks, painted, bill = stands_at(base, roll, moment)
             stands = Stands(base, roll, moment)
-            self.assertEqual(walk.book, (*base[0][:2], tuple(stands.sections)))
+            self.assertEqual(book, (*base[0][:2], tuple(stands.sections)))
             for section in stands.sections:
-                self.assertEqual(walk.marks.get(section[0]), stands.marks.get(section[0]) or None)
-            self.assertEqual(walk.painted, stands.painted)
-            self.assertEqual(walk.bill, stands.bill)
+                self.assertEqual(marks.get(section[0]), stands.marks.get(section[0]) or None)
+            self.assertEqual(painted, stands.painted)
+            self.assertEqual(bill, stands.bill)
             self.assertEqual(repr((base, roll)), repr(before))
 
     def test_idle_pages(self):
-        for base, roll, moment in small_walks(400, 71):
-            walk = Walk(base[0])
-            idle = []
+        for base, roll, _ in small_walks(400, 71):
+            self.assertEqual(walked(base[0], roll)[1], Stands(base, roll, END).idle)
+
+    def test_what_stood_ahead_stays_as_it_was(self):
+        for base, roll, _ in small_walks(200, 72):
+            stands = (base[0], {}, {}, {})
             for page in roll:
-                word = idle_word(walk, page)
-                if word:
-                    idle.append((page, word))
-                else:
-                    do_page(walk, page)
-            self.assertEqual(idle, Stands(base, roll, (99999, 999)).idle)
+                if idle_word(stands, page) == "":
+                    before = copy.deepcopy(stands)
+                    more = done(stands, page)
+                    self.assertEqual(repr(stands), repr(before))
+                    stands = more

@@ -16,6 +16,7 @@ METHODS = tuple((
     "append clear copy count endswith extend find get index insert isalnum isalpha isdigit islower isspace isupper "
     "items join keys ljust lower lstrip partition pop remove replace reverse rfind rjust rpartition rsplit rstrip "
     "setdefault split splitlines startswith strip update upper values zfill bit_length").split())
+DUNDERS = ("__init__", "__eq__", "__ne__", "__len__", "__str__")
 FUNCTION = ast.FunctionDef
 COMPREHENSIONS = (ast.ListComp, ast.SetComp, ast.DictComp)
 

@@ -2,8 +2,9 @@
 
 import ast
 
-from tests.rules.code import (CLASSES, COMPREHENSIONS, FUNCTION, PYTHON_ERRORS, around, at, called_name, is_docstring,
-                              is_plain, parameters)
+from tests.rules.code import (CLASSES, COMPREHENSIONS, DUNDERS, FUNCTION, PYTHON_ERRORS, around, at, called_name,
+                              is_docstring, is_plain, parameters)
+from tests.rules.operators import changes, reached
 
 STATEMENTS = (FUNCTION, ast.ClassDef, ast.ImportFrom, ast.Assign, ast.AugAssign, ast.If, ast.While, ast.For, ast.Return,
               ast.Break, ast.Continue, ast.Pass, ast.Raise, ast.Assert, ast.Expr, ast.Try)
@@ -37,12 +38,15 @@ def l5(code):
                 yield at("L5", file, node, "a base that is none")
         for part in node.body:
             if isinstance(part, FUNCTION):
-                if part.name.startswith("__") and part.name != "__init__":
+                if part.name.startswith("__") and part.name not in DUNDERS:
                     yield at("L5", file, part, part.name)
                 if not parameters(part):
                     yield at("L5", file, part, "a method without its own object")
             elif not is_docstring(part):
                 yield at("L5", file, part, "stands in a class")
+    for file, function in reached(code):
+        for node, why in changes(function):
+            yield at("L5", file, node, f"an operator leads here, and it {why}")
 
 
 def is_base(code, file, node, name):
@@ -178,14 +182,18 @@ def l21(code):
 
 
 def l28(code):
-    """Double-underscore methods: __init__ alone, which tells nothing."""
+    """Double-underscore methods: __init__ tells nothing; each other one is a return of such a form alone."""
     for file, node in code.all(FUNCTION):
         if node.name.startswith("__"):
-            if not isinstance(node.parent, ast.ClassDef) or node.name != "__init__":
+            if not isinstance(node.parent, ast.ClassDef) or node.name not in DUNDERS:
                 yield at("L28", file, node, node.name)
+            elif node.name != "__init__":
+                body = [part for part in node.body if not is_docstring(part)]
+                if len(body) != 1 or not isinstance(body[0], ast.Return) or not has_return_form(node.name, body[0].value):
+                    yield at("L28", file, node, f"{node.name} is no return of its form")
             for part in ast.walk(node):
-                if isinstance(part, ast.Return) and part.value is not None:
-                    yield at("L28", file, part, "__init__ tells something")
+                if node.name == "__init__" and isinstance(part, ast.Return):
+                    yield at("L28", file, part, "__init__ returns")
     for file, node in code.all(ast.Attribute):
         if node.attr == "__init__":
             function = around(node, FUNCTION)
@@ -195,6 +203,18 @@ def l28(code):
                          and function is not None and parameters(function)[:1] == [call.args[0].id])
             if function is None or function.name != "__init__" or not of_base or not with_self:
                 yield at("L28", file, node, "__init__ is called otherwise")
+
+
+def has_return_form(name, value):
+    """Whether a double-underscore method of a name may return this."""
+    if name == "__len__":
+        return called_name(value) == "len" or isinstance(value, ast.Constant) and value.value.__class__ is int
+    if name == "__str__":
+        text = isinstance(value, ast.Constant) and isinstance(value.value, str)
+        return text or isinstance(value, ast.JoinedStr) or called_name(value) in ("str", "repr")
+    if name == "__eq__":
+        return isinstance(value, ast.BoolOp) and called_name(value.values[0]) == "isinstance"
+    return isinstance(value, ast.UnaryOp) and isinstance(value.op, ast.Not)
 
 
 def is_class_name(code, name):

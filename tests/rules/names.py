@@ -5,8 +5,8 @@ import io
 import re
 import tokenize
 
-from tests.rules.code import (ALL_BUILTINS, BUILTINS, FUNCTION, METHODS, around, at, bindings, called_name, identifiers,
-                              imported, is_docstring, locals_of, module_names)
+from tests.rules.code import (ALL_BUILTINS, BUILTINS, DUNDERS, FUNCTION, METHODS, around, at, bindings, called_name,
+                              identifiers, imported, is_docstring, locals_of, module_names)
 
 BARRED_STARTS = ("_wall", "_pe_", "_dcw_", "_enum_", "_cm_", "_twin_re_", "_lay_", "_law_", "_stub_", "_sre",
                  "_WallAttr")
@@ -40,7 +40,7 @@ def l8(code):
         if node.name in BUILTINS:
             yield at("L8", file, node, f"{node.name} has another meaning")
     for file, node, name in identifiers(code):
-        if name.startswith("__") and name != "__init__":
+        if name.startswith("__") and name not in DUNDERS:
             yield at("L8", file, node, name)
     for file, node in code.all(ast.Attribute):
         if node.attr in ("format", "format_map", "mro", "__class__", "__name__"):
@@ -50,7 +50,7 @@ def l8(code):
 def l12(code):
     """Plain names."""
     for file, node, name in identifiers(code):
-        if name != "__init__" and not re.fullmatch(r"_?[A-Za-z][A-Za-z0-9_]*|_|\*", name):
+        if name not in DUNDERS and not re.fullmatch(r"_?[A-Za-z][A-Za-z0-9_]*|_|\*", name):
             yield at("L12", file, node, name)
         if name.startswith(BARRED_STARTS) or re.fullmatch(BARRED_WHOLE, name):
             yield at("L12", file, node, name)
