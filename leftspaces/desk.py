@@ -27,8 +27,9 @@ class Desk:
         """The answer to a row."""
         words = row.split(" ")
         word = words[0]
+        # A void word is none of a row's first words, and none that can stand behind one.
         thing = thing_behind(dict(ROW_FORMS).get(word, ""), words[1:])
-        if thing is None or "" in words:
+        if thing is None:
             raise NoRow(row)
         if word == "base":
             self._workshop = Workshop(thing)

@@ -27,7 +27,12 @@ def sorts_behind(lexicon, row):
 
 def barrier(lexicon, follow, row, letter, behind):
     """For each place just the SORTS that it has to BEAR: a BARRIER where the last one has none, else no LETTER's."""
-    told = [sorts_of_all(lexicon, words_from(lexicon, row, letter))]
+    return borne(follow, sorts_of_all(lexicon, words_from(lexicon, row, letter)), behind)
+
+
+def borne(follow, first, behind):
+    """For each place the SORTS that can stand there behind some first ones; behind are all those of each next place."""
+    told = [first]
     for sorts in behind:
         told.append(followers(follow, told[-1], sorts))
     return tuple(told)

@@ -7,19 +7,13 @@ from leftspaces.canbe import left_by, world_with
 from leftspaces.worldchecker import lets_world
 from leftspaces.worlds import world
 from tests.filling import LETTERS, is_world, large_fillings, small_fillings
+from tests.papers import why_no_world
 from tests.refusals import Refusals
 from tests.things import ODD, SIXTY, as_lists, cut_or_longer, deep, swapped
 
 CANS = (("a", "b"), ("a",), ("a", "b", "c"))
 BILL = (("a", 2), ("b", 1))
 WORLD = ("b", "a", "a")
-
-
-def why_none(cans, bill, thing):
-    """Why a tuple of letters, as many as spaces, is no WORLD, or None: the words of [41], each asked of all places."""
-    out = [("can", k) for k, (letter, can) in enumerate(zip(thing, cans)) if letter not in can]
-    off = [("bill", r) for r, (letter, many) in enumerate(bill) if list(thing).count(letter) != many]
-    return (out + off + [None])[0]
 
 
 class Checks(Refusals):
@@ -106,7 +100,7 @@ class Small(Checks, unittest.TestCase):
         for cans, bill in small_fillings(250, 410):
             for thing in product("abcz", repeat=min(4, len(cans))):
                 thing += ("a",) * (len(cans) - len(thing))
-                why = why_none(cans, bill, thing)
+                why = why_no_world(cans, bill, thing)
                 self.assertEqual(why is None, is_world(cans, bill, thing))
                 if why is None:
                     self.lets(cans, bill, thing)
